@@ -5,6 +5,7 @@ import (
 	"sealstream/api"
 	"sealstream/frame"
 	"sealstream/seal"
+	"sealstream/side"
 	"sealstream/siphash"
 )
 
@@ -28,40 +29,56 @@ func Unseal(key api.Key, first bool, p []byte) (uint64, []byte, error) {
 }
 
 // Conn is one side of a connection.
-type Conn struct{}
+type Conn struct {
+	side *side.Side
+}
 
 // New makes a side (P8).
-func New(c api.Config, key api.Key, first bool) (*Conn, error) { return nil, nil }
+func New(c api.Config, key api.Key, first bool) (*Conn, error) {
+	s, err := side.New(c, key, first)
+	if err != nil {
+		return nil, err
+	}
+	return &Conn{s}, nil
+}
+
+// within is the side, or nil, which answers too: no call panics, not even that of a Conn that New did not make.
+func (c *Conn) within() *side.Side {
+	if c == nil {
+		return nil
+	}
+	return c.side
+}
 
 // Write: a stream goes on, as far as there is room (P9).
-func (c *Conn) Write(k int, b []byte) (int, error) { return 0, nil }
+func (c *Conn) Write(k int, b []byte) (int, error) { return c.within().Write(k, b) }
 
 // Finish: a stream ends (P9).
-func (c *Conn) Finish(k int) error { return nil }
+func (c *Conn) Finish(k int) error { return c.within().Finish(k) }
 
 // GiveUp: a stream is given up (P18).
 func (c *Conn) GiveUp(k int, code uint64) error { return nil }
 
 // Came: how many bytes of a stream came from its beginning on (P9).
-func (c *Conn) Came(k int) (int, error) { return 0, nil }
+func (c *Conn) Came(k int) (int, error) { return c.within().Came(k) }
 
 // Tick: a tick has passed (P8).
-func (c *Conn) Tick() {}
+func (c *Conn) Tick() { c.within().Tick() }
 
 // Packets: what is to be sent now (P10, P11).
-func (c *Conn) Packets() [][]byte { return nil }
+func (c *Conn) Packets() [][]byte { return c.within().Packets() }
 
 // Receive: a packet came (P12 to P14).
-func (c *Conn) Receive(p []byte) error { return nil }
+func (c *Conn) Receive(p []byte) error { return c.within().Receive(p) }
 
 // Read: bytes of a stream that came, its state, and with which code it was given up (P15).
-func (c *Conn) Read(k int, most int) ([]byte, int, uint64, error) { return nil, 0, 0, nil }
+func (c *Conn) Read(k int, most int) ([]byte, int, uint64, error) { return c.within().Read(k, most) }
 
 // Close ends it (P19).
 func (c *Conn) Close(code uint64) error { return nil }
 
 // Err: why it is closed (P19).
-func (c *Conn) Err() error { return nil }
+func (c *Conn) Err() error { return c.within().Err() }
 
 // Serve does commands as they come, each with an answer, until there are no more (P20).
 func Serve(c *Conn, commands <-chan api.Command) <-chan api.Answer { return nil }

@@ -1,0 +1,26 @@
+package frame
+
+import "sealstream/api"
+
+// MostData is how many bytes a Data frame from that offset on holds, if it has that much room; below zero: there is none even for its head.
+func MostData(offset uint64, room int) int {
+	const kindAndStream = 2
+	room -= kindAndStream + sizeOf(offset)
+	n := room - 1
+	for n > 0 && sizeOf(uint64(n))+n > room {
+		n--
+	}
+	return n
+}
+
+// MostRanges is how many of the first of these ranges an Ack holds, if it has that much room.
+func MostRanges(l []api.Range, room int) int {
+	n := len(l)
+	for n > 0 && 1+len(appendRanges(nil, l[:n])) > room {
+		n--
+	}
+	return n
+}
+
+// sizeOf is in how many bytes a number stands.
+func sizeOf(n uint64) int { return 1 << powerOf(n) }
