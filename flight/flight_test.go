@@ -61,7 +61,7 @@ func TestWhatIsKept(t *testing.T) {
 func TestAnEndIsKept(t *testing.T) {
 	var o stream.Out
 	o.Finish()
-	end := stream.Piece{End: true}
+	end := stream.Piece{Word: stream.Word{End: true}}
 	if o.Settled(end) || !o.Settled(piece(0, 0)) {
 		t.Errorf("an end that was not sent is settled, or nothing is not")
 	}

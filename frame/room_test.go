@@ -30,6 +30,18 @@ func TestMostDataJustFits(t *testing.T) {
 	}
 }
 
+func TestResetSize(t *testing.T) {
+	numbers := []uint64{0, 63, 64, 4096, 1<<14 - 1, 1 << 14, 1<<30 - 1, 1 << 30, 1<<62 - 1}
+	for _, offset := range numbers {
+		for _, code := range numbers {
+			f := api.Frame{Kind: api.Reset, Stream: 3, Offset: offset, Code: code}
+			if n := ResetSize(offset, code); n != size(t, f) {
+				t.Errorf("P10: %+v has %d bytes, not %d", f, size(t, f), n)
+			}
+		}
+	}
+}
+
 func TestMostRangesJustFit(t *testing.T) {
 	for _, step := range []uint64{2, 10, 100, 1 << 20, 1 << 40} {
 		var l []api.Range

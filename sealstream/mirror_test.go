@@ -22,6 +22,8 @@ type mirror struct {
 	done    [4]bool
 	named   [4]map[int]int // places of bytes that came
 	ended   [4]bool        // the end came
+	gave    [4]*uint64     // the code with which it was given up
+	fell    [4]bool        // that it was came
 	sent    []letter       // by number
 	tick    int
 	wait    int
@@ -82,7 +84,7 @@ func (m *mirror) refusal(k int, write bool) error {
 		return api.ErrClosed
 	case k < 0 || k > 3:
 		return api.ErrStream
-	case write && m.done[k]:
+	case write && (m.done[k] || m.gave[k] != nil):
 		return api.ErrState
 	}
 	return nil
@@ -108,6 +110,19 @@ func (m *mirror) finish(k int) {
 	}
 	if bad == nil {
 		m.done[k] = true
+	}
+}
+
+func (m *mirror) giveUp(k int, code uint64) {
+	bad := m.refusal(k, false)
+	if bad == nil && (m.gave[k] != nil || code > top) {
+		bad = api.ErrState
+	}
+	if err := m.side.GiveUp(k, code); err != bad {
+		m.wrong("P18", "GiveUp(%d, %d) = %v, want %v", k, code, err, bad)
+	}
+	if bad == nil {
+		m.gave[k] = &code
 	}
 }
 
@@ -140,15 +155,18 @@ func (m *mirror) pass() {
 	}
 }
 
-// wanted is what is to be sent of a stream: places of bytes; -1 is its end.
+// wanted is what is to be sent of a stream: places of bytes; -1 is its end, -2 that it was given up.
 func (m *mirror) wanted(k int) map[int]int {
 	w := map[int]int{}
+	if m.gave[k] != nil && !m.fell[k] {
+		w[-2] = 1
+	}
 	for i := range m.wrote[k] {
-		if m.named[k][i] == 0 {
+		if m.gave[k] == nil && m.named[k][i] == 0 {
 			w[i] = 1
 		}
 	}
-	if m.done[k] && !m.ended[k] {
+	if m.gave[k] == nil && m.done[k] && !m.ended[k] {
 		w[-1] = 1
 	}
 	for _, l := range m.sent {
@@ -161,7 +179,7 @@ func (m *mirror) wanted(k int) map[int]int {
 	return w
 }
 
-// carried goes through the places that a Data frame of a stream has.
+// carried goes through the places that a frame of a stream has.
 func carried(k int, f api.Frame, do func(i int)) {
 	if f.Stream != k {
 		return
@@ -171,6 +189,9 @@ func carried(k int, f api.Frame, do func(i int)) {
 	}
 	if f.Fin {
 		do(-1)
+	}
+	if f.Kind == api.Reset {
+		do(-2)
 	}
 }
 
@@ -231,12 +252,13 @@ func (m *mirror) look(s sent) {
 		switch f.Kind {
 		case api.Ack:
 			m.lookAck(f)
-		case api.Data:
+		case api.Data, api.Reset:
 			m.lookData(f)
+			m.lookReset(f)
 			w := m.wanted(f.Stream)
 			carried(f.Stream, f, func(i int) {
 				fresh += w[i]
-				if i >= 0 && w[i] == 0 {
+				if i != -1 && w[i] == 0 {
 					m.wrong("P16", "the byte %d of stream %d came, or is on its way", i, f.Stream)
 				}
 			})
@@ -265,7 +287,30 @@ func (m *mirror) lookAck(f api.Frame) {
 	}
 }
 
+func (m *mirror) lookReset(f api.Frame) {
+	if f.Kind != api.Reset {
+		return
+	}
+	end := uint64(0)
+	for _, l := range m.sent {
+		for _, x := range l.frames {
+			if x.Kind == api.Data && x.Stream == f.Stream {
+				end = max(end, x.Offset+uint64(len(x.Data)))
+			}
+		}
+	}
+	if code := m.gave[f.Stream]; code == nil || *code != f.Code || f.Offset != end {
+		m.wrong("P18", "%+v, of a stream given up with %v, sent up to %d", f, code, end)
+	}
+}
+
 func (m *mirror) lookData(f api.Frame) {
+	if f.Kind != api.Data {
+		return
+	}
+	if m.gave[f.Stream] != nil {
+		m.wrong("P18", "%+v of a stream that was given up", f)
+	}
 	all := m.wrote[f.Stream]
 	end := int(f.Offset) + len(f.Data)
 	if end > len(all) || string(all[f.Offset:end]) != f.Data {
@@ -396,9 +441,9 @@ func (m *mirror) ack(f api.Frame) api.Errno {
 			m.sent[n].state = nowhere
 			for _, x := range m.sent[n].frames {
 				carried(x.Stream, x, func(i int) {
-					if m.named[x.Stream][i] = 1; i < 0 {
-						m.ended[x.Stream] = true
-					}
+					m.named[x.Stream][i] = 1
+					m.ended[x.Stream] = m.ended[x.Stream] || i == -1
+					m.fell[x.Stream] = m.fell[x.Stream] || i == -2
 				})
 			}
 		}
@@ -484,8 +529,13 @@ func act(r *rand.Rand, m *mirror) {
 		case 3:
 			m.write(k, counted(r.Intn(9)))
 		case 4:
-			if r.Intn(5) == 0 {
+			switch r.Intn(20) {
+			case 0, 1, 2, 3:
 				m.finish(k)
+			case 4:
+				m.giveUp(k, uint64(r.Intn(100)))
+			case 5:
+				m.giveUp(k, top+uint64(r.Intn(2)))
 			}
 		case 5:
 			m.askCame(k)
@@ -516,13 +566,13 @@ func scatter(r *rand.Rand, m *mirror, way [][]byte, loss int) (rest [][]byte) {
 	return rest
 }
 
-// settle: from now on all packets come: all bytes and ends do, and then nothing is sent.
+// settle: from now on all packets come: all bytes, ends and that streams were given up do, and then nothing is sent.
 func settle(t *testing.T, a, b *mirror) {
 	total, bound := 0, 120
 	for k := range 4 {
 		total += len(a.wrote[k]) + len(b.wrote[k])
 	}
-	bound += 3*(total/a.c.Window+1) + total/16
+	bound += 3*((total+a.c.Window-1)/a.c.Window) + total/16
 	quiet := 0
 	for tick := 0; quiet < 40; tick++ {
 		n := 0
@@ -547,6 +597,12 @@ func settle(t *testing.T, a, b *mirror) {
 		for k := range 4 {
 			m[0].askCame(k)
 			s := m[1].reading[k]
+			if code := m[0].gave[k]; code != nil {
+				if s.code == nil || *s.code != *code {
+					t.Errorf("P17: that stream %d was given up was not told", k)
+				}
+				continue
+			}
 			if m[0].cameOf(k) != len(m[0].wrote[k]) || s.read != uint64(len(m[0].wrote[k])) || s.over != m[0].done[k] {
 				t.Errorf("P17: stream %d: %d bytes, %d came, %d were read, over: %v", k, len(m[0].wrote[k]), m[0].cameOf(k), s.read, s.over)
 			}
@@ -577,6 +633,7 @@ func TestOneSideAndAStranger(t *testing.T) {
 			m.askCame(k)
 			m.write(k, counted(9))
 			m.finish(k)
+			m.giveUp(k, 9)
 		}
 		m.send()
 	}

@@ -57,7 +57,7 @@ func (c *Conn) Write(k int, b []byte) (int, error) { return c.within().Write(k, 
 func (c *Conn) Finish(k int) error { return c.within().Finish(k) }
 
 // GiveUp: a stream is given up (P18).
-func (c *Conn) GiveUp(k int, code uint64) error { return nil }
+func (c *Conn) GiveUp(k int, code uint64) error { return c.within().GiveUp(k, code) }
 
 // Came: how many bytes of a stream came from its beginning on (P9).
 func (c *Conn) Came(k int) (int, error) { return c.within().Came(k) }

@@ -151,6 +151,13 @@ func finishes(t *testing.T, c *sealstream.Conn, k int, want error) {
 	}
 }
 
+func givesUp(t *testing.T, c *sealstream.Conn, k int, code uint64, want error) {
+	t.Helper()
+	if err := c.GiveUp(k, code); err != want {
+		t.Errorf("P18: GiveUp(%d, %d) = %v, want %v", k, code, err, want)
+	}
+}
+
 func came(t *testing.T, c *sealstream.Conn, k int, n int, want error) {
 	t.Helper()
 	if got, err := c.Came(k); got != n || err != want {
@@ -256,6 +263,8 @@ func isClosed(t *testing.T, c *sealstream.Conn, why error) {
 		writes(t, c, k, "abc", 0, api.ErrClosed)
 		writes(t, c, k, "", 0, api.ErrClosed)
 		finishes(t, c, k, api.ErrClosed)
+		givesUp(t, c, k, 5, api.ErrClosed)
+		givesUp(t, c, k, top+1, api.ErrClosed)
 		came(t, c, k, 0, api.ErrClosed)
 		if b, state, code, err := c.Read(k, 5); b != nil || state != 0 || code != 0 || err != api.ErrClosed {
 			t.Errorf("P15: Read of a closed side = %q, %d, %d, %v", b, state, code, err)

@@ -80,7 +80,7 @@ func (s *Side) load(k int, due *stream.Due) (frames []byte, pieces []stream.Piec
 			return frames, pieces
 		}
 		due.Leave(p)
-		frames = append(frames, bytesOf(o.Frame(k, p))...)
+		frames = append(frames, bytesOf(o.Send(k, p))...)
 		pieces = append(pieces, p)
 	}
 }

@@ -1,4 +1,4 @@
-// Package side is one side of a connection (P8 to P15): what it sends, and what comes to it.
+// Package side is one side of a connection (P8 to P18): what it sends, and what comes to it.
 package side
 
 import (
@@ -67,6 +67,18 @@ func (s *Side) Finish(k int) error {
 		return err
 	}
 	o.Finish()
+	return nil
+}
+
+// GiveUp lets a stream go (P18).
+func (s *Side) GiveUp(k int, code uint64) error {
+	if err := s.refuses(k); err != nil {
+		return err
+	}
+	if s.out[k].GivenUp() || code > api.MaxValue {
+		return api.ErrState
+	}
+	s.out[k].GiveUp(code)
 	return nil
 }
 

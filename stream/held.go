@@ -7,7 +7,7 @@ import (
 	"sealstream/spans"
 )
 
-// held is the bytes of a stream from a place on: ahead of it none is kept. What came is known from the beginning on.
+// held is the bytes of a stream from a place on: ahead of it none is kept, nor any of a stream that was given up. What came is known from the beginning on.
 type held struct {
 	at    uint64
 	bytes []byte
@@ -28,7 +28,7 @@ func (h *held) whole() int {
 // drop lets the place go on by n bytes.
 func (h *held) drop(n int) {
 	h.at += uint64(n)
-	h.bytes = slices.Clone(h.bytes[n:]) // a piece of the old list would keep all of it
+	h.bytes = slices.Clone(h.bytes[min(n, len(h.bytes)):]) // a piece of the old list would keep all of it
 }
 
 // missing is the part of a span that did not come.

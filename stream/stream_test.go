@@ -35,6 +35,62 @@ func TestBytesAreDropped(t *testing.T) {
 	}
 }
 
+// TestGivenUpBytesAreDropped: they are not sent any more; how many came is known even so.
+func TestGivenUpBytesAreDropped(t *testing.T) {
+	var o Out
+	o.Write(make([]byte, 100), 100)
+	o.Send(0, Piece{Span: spans.Span{From: 0, To: 70}})
+	o.GiveUp(5)
+	if o.bytes != nil || len(o.Missing().Set) > 0 {
+		t.Errorf("%d bytes are held of a stream that was given up", len(o.bytes))
+	}
+	o.Arrive(Piece{Span: spans.Span{From: 30, To: 70}})
+	o.Arrive(Piece{Span: spans.Span{From: 0, To: 10}})
+	if o.Came() != 10 || len(o.Missing().Set) > 0 {
+		t.Errorf("%d came, %v is missing", o.Came(), o.Missing())
+	}
+	o.Arrive(Piece{Span: spans.Span{From: 10, To: 30}})
+	if o.Came() != 70 {
+		t.Errorf("%d came", o.Came())
+	}
+}
+
+// TestAResetWithLittleRoom: five bytes, if its code has two.
+func TestAResetWithLittleRoom(t *testing.T) {
+	var o Out
+	o.GiveUp(64)
+	for room := range 8 {
+		p, ok := o.Next(o.Missing(), room)
+		if ok != (room >= 5) || ok && p != (Piece{Word: Word{Given: true}}) {
+			t.Errorf("of %d bytes of room: %+v, %v", room, p, ok)
+		}
+	}
+}
+
+// TestWhatSaysNothingNew: of a stream that was given up its end does not matter any more.
+func TestWhatSaysNothingNew(t *testing.T) {
+	end, given := Piece{Word: Word{End: true}}, Piece{Word: Word{Given: true}}
+	bytes := Piece{Span: spans.Span{From: 0, To: 3}}
+	for _, c := range []struct {
+		name              string
+		do                func(o *Out)
+		end, given, bytes bool
+	}{
+		{"finished", func(o *Out) { o.Finish() }, false, true, false},
+		{"the end came", func(o *Out) { o.Finish(); o.Arrive(end) }, true, true, false},
+		{"given up", func(o *Out) { o.Finish(); o.GiveUp(5) }, true, false, false},
+		{"that came", func(o *Out) { o.GiveUp(5); o.Arrive(given) }, true, true, false},
+		{"the bytes came", func(o *Out) { o.GiveUp(5); o.Arrive(bytes) }, true, false, true},
+	} {
+		var o Out
+		o.Write([]byte("abc"), 100)
+		c.do(&o)
+		if o.Settled(end) != c.end || o.Settled(given) != c.given || o.Settled(bytes) != c.bytes {
+			t.Errorf("%s: %v, %v, %v", c.name, o.Settled(end), o.Settled(given), o.Settled(bytes))
+		}
+	}
+}
+
 // TestAnEndWithLittleRoom: four bytes are the head of a frame, and all that an end needs.
 func TestAnEndWithLittleRoom(t *testing.T) {
 	var empty, full Out
@@ -44,7 +100,7 @@ func TestAnEndWithLittleRoom(t *testing.T) {
 		o.Finish()
 		for room := range 8 {
 			p, ok := o.Next(o.Missing(), room)
-			if ok != (room >= 4) || ok && p != (Piece{Span: spans.Span{From: o.end(), To: o.end()}, End: true}) {
+			if ok != (room >= 4) || ok && p != (Piece{Span: spans.Span{From: o.end(), To: o.end()}, Word: Word{End: true}}) {
 				t.Errorf("of %d bytes of room: %+v, %v", room, p, ok)
 			}
 		}
@@ -59,7 +115,7 @@ func TestBytesWithLittleRoom(t *testing.T) {
 	for room := range 10 {
 		p, ok := o.Next(o.Missing(), room)
 		n := min(3, uint64(max(room, 4)-4))
-		if ok != (n > 0) || ok && p != (Piece{Span: spans.Span{To: n}, End: n == 3}) {
+		if ok != (n > 0) || ok && p != (Piece{Span: spans.Span{To: n}, Word: Word{End: n == 3}}) {
 			t.Errorf("of %d bytes of room: %+v, %v", room, p, ok)
 		}
 	}
