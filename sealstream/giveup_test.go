@@ -179,3 +179,133 @@ func TestOneStreamGivenUp(t *testing.T) {
 	carry(t, b, a)
 	reads(t, a, 1, 9, "more", api.Open)
 }
+
+// TestGivenUpInTheMidst: its reader has some of it, and is told; the others come through, though packets are lost.
+func TestGivenUpInTheMidst(t *testing.T) {
+	a, b := talkers(t, small(), 300)
+	lossy := func(a, b *talker) {
+		for i, p := range a.side.Packets() {
+			if i%3 != 1 {
+				b.side.Receive(p)
+			}
+		}
+		b.read()
+	}
+	for range 8 {
+		a.write()
+		b.write()
+		a.side.Tick()
+		b.side.Tick()
+		lossy(a, b)
+		lossy(b, a)
+	}
+	some := b.got[2]
+	if some == "" || some == a.text[2] {
+		t.Fatalf("%d bytes of 300 came", len(some))
+	}
+	a.giveUp(2)
+	comesThrough(t, a, b, 20, inTurn)
+	if b.got[2] != some {
+		t.Errorf("P18: %d bytes were read, and %d when it was given up", len(b.got[2]), len(some))
+	}
+	readsGiven(t, b.side, 2, 102)
+}
+
+// TestAResetThatComes: what Read says behind it, in whatever packets it came.
+func TestAResetThatComes(t *testing.T) {
+	for name, c := range map[string]struct {
+		frames []api.Frame
+		want   error
+		code   uint64
+	}{
+		"of nothing":                        {[]api.Frame{resetOf(2, 0, 5)}, nil, 5},
+		"the greatest":                      {[]api.Frame{resetOf(2, top, top)}, nil, top},
+		"code 0":                            {[]api.Frame{resetOf(2, 9, 0)}, nil, 0},
+		"bytes up to it":                    {[]api.Frame{data(2, 0, "abc"), resetOf(2, 3, 5)}, nil, 5},
+		"bytes and a hole":                  {[]api.Frame{data(2, 0, "abc"), data(2, 9, "j"), resetOf(2, 12, 5)}, nil, 5},
+		"at the known end":                  {[]api.Frame{fin(2, 0, "abc"), resetOf(2, 3, 5)}, nil, 5},
+		"two codes":                         {[]api.Frame{resetOf(2, 3, 5), resetOf(2, 3, 6)}, nil, 5},
+		"two codes, the second 0":           {[]api.Frame{resetOf(2, 3, 5), resetOf(2, 3, 0)}, nil, 5},
+		"two codes, the first 0":            {[]api.Frame{resetOf(2, 3, 0), resetOf(2, 3, 5)}, nil, 0},
+		"the end behind it":                 {[]api.Frame{resetOf(2, 3, 5), fin(2, 0, "abc"), resetOf(2, 3, 6)}, nil, 5},
+		"bytes behind it":                   {[]api.Frame{resetOf(2, 3, 5), data(2, 0, "ab"), data(2, 3, "")}, nil, 5},
+		"of another":                        {[]api.Frame{resetOf(1, 3, 5), resetOf(2, 4, 6), data(2, 3, "d")}, nil, 6},
+		"below a byte":                      {[]api.Frame{data(2, 0, "abc"), resetOf(2, 2, 5)}, api.ErrFinal, 0},
+		"below a byte behind a hole":        {[]api.Frame{data(2, 9, "j"), resetOf(2, 9, 5)}, api.ErrFinal, 0},
+		"below a frame without bytes":       {[]api.Frame{data(2, 9, ""), resetOf(2, 8, 5)}, api.ErrFinal, 0},
+		"above the known end":               {[]api.Frame{fin(2, 0, "abc"), resetOf(2, 4, 5)}, api.ErrFinal, 0},
+		"below the known end":               {[]api.Frame{fin(2, 3, ""), resetOf(2, 2, 5)}, api.ErrFinal, 0},
+		"two ends, the second above":        {[]api.Frame{resetOf(2, 3, 5), resetOf(2, 4, 5)}, api.ErrFinal, 0},
+		"two ends, the second below":        {[]api.Frame{resetOf(2, 3, 5), resetOf(2, 2, 5)}, api.ErrFinal, 0},
+		"a byte behind it":                  {[]api.Frame{resetOf(2, 3, 5), data(2, 3, "d")}, api.ErrFinal, 0},
+		"a frame without bytes behind it":   {[]api.Frame{resetOf(2, 3, 5), data(2, 4, "")}, api.ErrFinal, 0},
+		"an end below it":                   {[]api.Frame{resetOf(2, 3, 5), fin(2, 0, "ab")}, api.ErrFinal, 0},
+		"below a byte that came behind one": {[]api.Frame{resetOf(2, 3, 5), data(2, 0, "abc"), resetOf(2, 2, 5)}, api.ErrFinal, 0},
+	} {
+		for _, apart := range []bool{false, true} {
+			a, _ := pair(t, small())
+			packets := [][]byte{packet(t, 0, c.frames...)}
+			if apart {
+				packets = nil
+				for i, f := range c.frames {
+					packets = append(packets, packet(t, uint64(i), f))
+				}
+			}
+			for _, p := range packets[:len(packets)-1] {
+				receives(t, a, p, nil)
+			}
+			receives(t, a, packets[len(packets)-1], c.want)
+			if c.want == nil {
+				readsGiven(t, a, 2, c.code)
+				reads(t, a, 3, 9, "", api.Open)
+			} else {
+				isClosed(t, a, c.want)
+				leaves(t, a, 7)
+			}
+			if t.Failed() {
+				t.Fatalf("P18: %s, apart: %v", name, apart)
+			}
+		}
+	}
+}
+
+// TestAResetBehindFinished: Read has said that, and says it on; an end that moves is an error even so.
+func TestAResetBehindFinished(t *testing.T) {
+	for _, text := range []string{"", "abc"} {
+		end := uint64(len(text))
+		a, _ := pair(t, small())
+		receives(t, a, packet(t, 0, fin(0, 0, text), fin(1, 0, text)), nil)
+		reads(t, a, 0, 9, text, api.Finished)
+		receives(t, a, packet(t, 1, resetOf(0, end, 5), resetOf(1, end, 6)), nil)
+		reads(t, a, 0, 9, "", api.Finished)
+		readsGiven(t, a, 1, 6) // nobody had asked
+		receives(t, a, packet(t, 2, resetOf(0, end, 7), fin(0, 0, text), data(0, 0, text)), nil)
+		reads(t, a, 0, 9, "", api.Finished)
+		receives(t, a, packet(t, 3, resetOf(0, end+1, 5)), api.ErrFinal)
+		isClosed(t, a, api.ErrFinal)
+	}
+}
+
+// TestAResetBehindOpen: all was read, but no end was known.
+func TestAResetBehindOpen(t *testing.T) {
+	a, _ := pair(t, small())
+	receives(t, a, packet(t, 0, data(0, 0, "abc")), nil)
+	reads(t, a, 0, 9, "abc", api.Open)
+	receives(t, a, packet(t, 1, resetOf(0, 3, 5)), nil)
+	readsGiven(t, a, 0, 5)
+}
+
+// TestAResetThatWasTurned: nothing turns, and one that comes twice is nothing.
+func TestAResetThatWasTurned(t *testing.T) {
+	a, _ := pair(t, small())
+	good := packet(t, 0, resetOf(0, 3, 5))
+	for i := range good {
+		p := append([]byte(nil), good...)
+		p[i] ^= 0x10
+		receives(t, a, p, api.ErrSeal)
+	}
+	isOpen(t, a, "P12: nothing turns")
+	receives(t, a, good, nil)
+	receives(t, a, packet(t, 0, resetOf(0, 9, 6)), nil) // its number came already
+	readsGiven(t, a, 0, 5)
+}

@@ -3,6 +3,7 @@ package sealstream_test
 import (
 	"fmt"
 	"math/rand"
+	"reflect"
 	"testing"
 
 	"sealstream/api"
@@ -15,8 +16,8 @@ type mirror struct {
 	side  *sealstream.Conn
 	c     api.Config
 	first bool
-	why   error // nil: open
-	left  int   // packets yet to come of a closed side
+	why   error       // nil: open
+	last  []api.Frame // of a closed side: what it has yet to send
 
 	wrote   [4][]byte
 	done    [4]bool
@@ -233,16 +234,15 @@ func (m *mirror) send() [][]byte {
 }
 
 func (m *mirror) lastPackets(list [][]byte) {
-	if len(list) != m.left {
-		m.wrong("P19", "%d packets of a closed side, want %d", len(list), m.left)
+	if len(list) != len(m.last) {
+		m.wrong("P19", "%d packets of a closed side, want %d", len(list), len(m.last))
 	}
 	for _, p := range list {
-		s := opened(m.t, m.first, p)
-		if s.number != uint64(len(m.sent)) || len(s.frames) != 1 || s.frames[0].Kind != api.Close || api.Errno(s.frames[0].Code) != m.why {
-			m.wrong("P19", "the last packet is %+v, by %v", s, m.why)
+		if s := opened(m.t, m.first, p); s.number != uint64(len(m.sent)) || !reflect.DeepEqual(s.frames, m.last) {
+			m.wrong("P19", "the last packet is %+v, want %+v, by %v", s, m.last, m.why)
 		}
 	}
-	m.left = 0
+	m.last = nil
 }
 
 func (m *mirror) look(s sent) {
@@ -327,9 +327,7 @@ func (m *mirror) deliver(p []byte) error {
 	if err := m.side.Receive(p); fmt.Sprint(err) != fmt.Sprint(bad) {
 		m.wrong("P12", "Receive(%x) = %v, want %v", p, err, bad)
 	}
-	if err := m.side.Err(); err != m.why {
-		m.wrong("P19", "Err = %v, want %v", err, m.why)
-	}
+	m.askErr()
 	return bad
 }
 
@@ -346,7 +344,7 @@ func (m *mirror) take(p []byte) error {
 	}
 	l, at := readAll(b)
 	if at >= 0 {
-		m.shut(api.ErrFrame)
+		m.shut(api.ErrFrame, uint64(api.ErrFrame))
 		return &api.Fault{Err: api.ErrFrame, At: at}
 	}
 	for _, f := range l {
@@ -358,16 +356,38 @@ func (m *mirror) take(p []byte) error {
 	m.remember(n, l)
 	for _, f := range l {
 		if e := m.frame(f); e != api.OK {
-			m.shut(e)
+			m.shut(e, uint64(e))
 			return e
 		}
 	}
 	return nil
 }
 
-func (m *mirror) shut(e api.Errno) {
+func (m *mirror) shut(e api.Errno, code uint64) {
 	if m.why = e; e != api.ErrPeer {
-		m.left = 1
+		m.last = []api.Frame{closeOf(code)}
+	}
+}
+
+func (m *mirror) leave(code uint64) {
+	var bad error
+	switch {
+	case m.why != nil:
+		bad = api.ErrClosed
+	case code > top:
+		bad = api.ErrState
+	default:
+		m.shut(api.ErrClosed, code)
+	}
+	if err := m.side.Close(code); err != bad {
+		m.wrong("P19", "Close(%d) = %v, want %v", code, err, bad)
+	}
+	m.askErr()
+}
+
+func (m *mirror) askErr() {
+	if err := m.side.Err(); err != m.why {
+		m.wrong("P19", "Err = %v, want %v", err, m.why)
 	}
 }
 
@@ -502,9 +522,14 @@ func TestTwoSides(t *testing.T) {
 }
 
 func run(t *testing.T, r *rand.Rand, a, b *mirror) {
+	talk(r, a, b, 150)
+	settle(t, a, b)
+}
+
+func talk(r *rand.Rand, a, b *mirror, rounds int) {
 	ways := [2][][]byte{}
 	loss := r.Intn(60)
-	for range 150 {
+	for range rounds {
 		for i, m := range []*mirror{a, b} {
 			act(r, m)
 			ways[i] = append(ways[i], m.send()...)
@@ -516,7 +541,25 @@ func run(t *testing.T, r *rand.Rand, a, b *mirror) {
 			ways[i] = scatter(r, m, ways[i], loss)
 		}
 	}
-	settle(t, a, b)
+}
+
+// TestTwoSidesThatLeave: one or both, in the midst, with what is on its way coming yet.
+func TestTwoSidesThatLeave(t *testing.T) {
+	for seed := range int64(200) {
+		r := rand.New(rand.NewSource(seed))
+		c := api.Config{MTU: 64 + r.Intn(237), Window: 16 + r.Intn(200)}
+		a, b := newMirror(t, c, true), newMirror(t, c, false)
+		talk(r, a, b, r.Intn(40))
+		a.leave(top + uint64(r.Intn(2)))
+		if r.Intn(3) == 0 {
+			b.leave(uint64(r.Intn(100)))
+		}
+		talk(r, a, b, r.Intn(5))
+		a.leave(uint64(r.Intn(100)))
+		talk(r, a, b, 10)
+		b.leave(uint64(r.Intn(100)))
+		talk(r, b, a, 10)
+	}
 }
 
 // act: a few calls of its user.
@@ -626,6 +669,9 @@ func TestOneSideAndAStranger(t *testing.T) {
 			if r.Intn(3) == 0 {
 				m.pass()
 			}
+			if r.Intn(200) == 0 {
+				m.leave(top - 2 + uint64(r.Intn(5)))
+			}
 			m.deliver(strange(r, m))
 		}
 		for k := -1; k < 5; k++ {
@@ -635,6 +681,9 @@ func TestOneSideAndAStranger(t *testing.T) {
 			m.finish(k)
 			m.giveUp(k, 9)
 		}
+		m.leave(uint64(r.Intn(100)))
+		m.leave(top + 1)
+		m.send()
 		m.send()
 	}
 }
@@ -685,7 +734,7 @@ func strangeFrame(r *rand.Rand, m *mirror) api.Frame {
 	case x == 63:
 		return resetOf(k, uint64(r.Intn(30)), 5)
 	case x == 64:
-		return api.Frame{Kind: api.Close, Code: 3}
+		return closeOf(3)
 	case x < 68:
 		return fin(k, s.high, "")
 	case x == 68 && s.end != nil:

@@ -17,6 +17,8 @@ func resetOf(k int, offset, code uint64) api.Frame {
 	return api.Frame{Kind: api.Reset, Stream: k, Offset: offset, Code: code}
 }
 
+func closeOf(code uint64) api.Frame { return api.Frame{Kind: api.Close, Code: code} }
+
 // isOpen: what came turned nothing: no bytes, nothing to answer, no error kept.
 func isOpen(t *testing.T, c *sealstream.Conn, why string) {
 	t.Helper()
@@ -75,7 +77,7 @@ func TestPacketsThatComeTwice(t *testing.T) {
 	receives(t, a, packet(t, 4, data(0, 0, "abc")), nil)
 	sends(t, a, true)
 	// Whatever is in it: not looked at.
-	for _, l := range [][]api.Frame{{data(0, 3, "def")}, {fin(0, 0, "")}, {data(0, 900, "x")}, {acked(77)}, {{Kind: api.Close}}} {
+	for _, l := range [][]api.Frame{{data(0, 3, "def")}, {fin(0, 0, "")}, {data(0, 900, "x")}, {acked(77)}, {closeOf(0)}} {
 		receives(t, a, packet(t, 4, l...), nil)
 	}
 	receives(t, a, sealstream.Seal(counting(), false, 4, []byte{0xff}), nil)
@@ -179,7 +181,7 @@ func TestBusy(t *testing.T) {
 		"behind its end":           {fin(0, 0, "abc"), data(0, 15, "123456")},
 		"beside a wrong Ack":       {acked(9), data(0, 15, "123456")},
 		"ahead of a wrong Ack":     {data(0, 15, "123456"), acked(9)},
-		"behind a Close":           {{Kind: api.Close}, data(0, 15, "123456")},
+		"behind a Close":           {closeOf(0), data(0, 15, "123456")},
 		"behind its Reset":         {resetOf(0, 100, 1), data(0, 15, "123456")},
 		"beside a Ping":            {ping(), data(0, top-2, "xy")},
 	} {
@@ -283,8 +285,8 @@ func TestErrorsClose(t *testing.T) {
 		{"resets that differ", []api.Frame{resetOf(0, 4, 7), resetOf(0, 5, 7)}, api.ErrFinal},
 		{"bytes behind a reset", []api.Frame{resetOf(0, 4, 7), data(0, 4, "a")}, api.ErrFinal},
 		{"an end that a reset moves", []api.Frame{resetOf(0, 4, 7), fin(0, 3, "")}, api.ErrFinal},
-		{"close", []api.Frame{data(0, 0, "abc"), {Kind: api.Close, Code: 3}, acked(5)}, api.ErrPeer},
-		{"the first of two", []api.Frame{acked(7), {Kind: api.Close}}, api.ErrAck},
+		{"close", []api.Frame{data(0, 0, "abc"), closeOf(3), acked(5)}, api.ErrPeer},
+		{"the first of two", []api.Frame{acked(7), closeOf(0)}, api.ErrAck},
 		{"the first of two others", []api.Frame{fin(0, 1, ""), fin(0, 2, ""), acked(7)}, api.ErrFinal},
 	} {
 		for _, apart := range []bool{false, true} { // in one packet, or in several

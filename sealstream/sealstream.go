@@ -5,6 +5,7 @@ import (
 	"sealstream/api"
 	"sealstream/frame"
 	"sealstream/seal"
+	"sealstream/serve"
 	"sealstream/side"
 	"sealstream/siphash"
 )
@@ -65,20 +66,22 @@ func (c *Conn) Came(k int) (int, error) { return c.within().Came(k) }
 // Tick: a tick has passed (P8).
 func (c *Conn) Tick() { c.within().Tick() }
 
-// Packets: what is to be sent now (P10, P11).
+// Packets: what is to be sent now (P10, P11, P19).
 func (c *Conn) Packets() [][]byte { return c.within().Packets() }
 
-// Receive: a packet came (P12 to P14).
+// Receive: a packet came (P12 to P14, P18, P19).
 func (c *Conn) Receive(p []byte) error { return c.within().Receive(p) }
 
-// Read: bytes of a stream that came, its state, and with which code it was given up (P15).
+// Read: bytes of a stream that came, its state, and with which code it was given up (P15, P18).
 func (c *Conn) Read(k int, most int) ([]byte, int, uint64, error) { return c.within().Read(k, most) }
 
 // Close ends it (P19).
-func (c *Conn) Close(code uint64) error { return nil }
+func (c *Conn) Close(code uint64) error { return c.within().Close(code) }
 
 // Err: why it is closed (P19).
 func (c *Conn) Err() error { return c.within().Err() }
 
 // Serve does commands as they come, each with an answer, until there are no more (P20).
-func Serve(c *Conn, commands <-chan api.Command) <-chan api.Answer { return nil }
+func Serve(c *Conn, commands <-chan api.Command) <-chan api.Answer {
+	return serve.Answers(c.within(), commands)
+}

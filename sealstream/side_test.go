@@ -158,6 +158,13 @@ func givesUp(t *testing.T, c *sealstream.Conn, k int, code uint64, want error) {
 	}
 }
 
+func closes(t *testing.T, c *sealstream.Conn, code uint64, want error) {
+	t.Helper()
+	if err := c.Close(code); err != want {
+		t.Errorf("P19: Close(%d) = %v, want %v", code, err, want)
+	}
+}
+
 func came(t *testing.T, c *sealstream.Conn, k int, n int, want error) {
 	t.Helper()
 	if got, err := c.Came(k); got != n || err != want {
@@ -270,10 +277,18 @@ func isClosed(t *testing.T, c *sealstream.Conn, why error) {
 			t.Errorf("P15: Read of a closed side = %q, %d, %d, %v", b, state, code, err)
 		}
 	}
-	for _, p := range [][]byte{nil, packet(t, 1000, api.Frame{Kind: api.Ping}), packet(t, 1001, data(0, 5000, "x")), packet(t, 1002, api.Frame{Kind: api.Close})} {
-		receives(t, c, p, api.ErrClosed)
+	for _, code := range []uint64{0, 5, top, top + 1, math.MaxUint64} { // and of ErrState
+		closes(t, c, code, api.ErrClosed)
 	}
-	c.Tick()
+	for _, p := range [][]byte{nil, make([]byte, 16), make([]byte, 400), packet(t, 1000, ping()), packet(t, 1001, data(0, 5000, "x")), packet(t, 1002, closeOf(3)), packet(t, 1003, resetOf(0, 0, 1)), packet(t, 1004, acked(top))} {
+		receives(t, c, p, api.ErrClosed)
+		if len(p) > 0 {
+			p[len(p)-1] ^= 1
+			receives(t, c, p, api.ErrClosed)
+		}
+	}
+	receives(t, c, sealstream.Seal(counting(), false, 1005, []byte{0xff}), api.ErrClosed)
+	ticks(c, 2)
 	if err := c.Err(); err != why || !errors.Is(err, why) {
 		t.Errorf("P19: Err = %v, want %v", err, why)
 	}

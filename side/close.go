@@ -2,8 +2,20 @@ package side
 
 import "sealstream/api"
 
-// close ends the side. What is kept of it is why, and its last packet.
-func (s *Side) close(why api.Errno, code uint64) {
+// Close ends the side, with a code for the other (P19).
+func (s *Side) Close(code uint64) error {
+	if s.closed() {
+		return api.ErrClosed
+	}
+	if code > api.MaxValue {
+		return api.ErrState
+	}
+	s.end(api.ErrClosed, code)
+	return nil
+}
+
+// end closes the side. What is kept of it is why, and its last packet.
+func (s *Side) end(why api.Errno, code uint64) {
 	var last [][]byte
 	if why != api.ErrPeer { // who closed knows it
 		leave := api.Frame{Kind: api.Close, Code: code}

@@ -72,6 +72,6 @@ func (s *Side) ack(f api.Frame) error {
 func (s *Side) fail(err error) error {
 	var why api.Errno
 	errors.As(err, &why)
-	s.close(why, uint64(why))
+	s.end(why, uint64(why))
 	return err
 }

@@ -1,4 +1,4 @@
-// Package side is one side of a connection (P8 to P18): what it sends, and what comes to it.
+// Package side is one side of a connection (P8 to P19): what it sends, and what comes to it.
 package side
 
 import (
